@@ -27,3 +27,19 @@ def states_along(acts, state):
             break
         states.append(act.state_behind(states[-1]))
     return states
+
+
+def needs_of(acts, wanted):
+    """The facts that have to be so and those that mustn't be, or None if the acts are a plan from no state."""
+    must = wanted
+    must_not = 0
+    for act in reversed(acts):
+        lost = act.taken & ~act.brought
+        if (must & lost) != 0 or (must_not & act.brought) != 0:
+            return None
+        must = (must & ~act.brought) | act.needed
+        must_not = (must_not & ~lost) | act.barred
+    # A fact in both sets further on either ended the walk at an act above or is in both sets here too.
+    if (must & must_not) != 0:
+        return None
+    return (must, must_not)

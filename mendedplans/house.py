@@ -1,9 +1,13 @@
 """The house: its facts, its acts, its state now and the rest of a plan; and the calls on it."""
 
 from mendedplans.acts import Act
+from mendedplans.acts import needs_of
 from mendedplans.acts import states_along
+from mendedplans.search import cheapest_plan
+from mendedplans.search import nearest_plan
 
 WRONG = -1
+NO_PLAN = -6
 FULL = -7
 
 MOST_FACTS = 5
@@ -108,6 +112,44 @@ def answer_wants(house, given):
     return [house.rest_does()]
 
 
+def answer_still(house, given):
+    states = house.states_of(house.rest)
+    return [house.rest_does(), len(states) - 1, states[-1]]
+
+
+def answer_needs(house, given):
+    needs = needs_of([house.acts[number] for number in house.rest], house.wanted)
+    if needs is None:
+        return [NO_PLAN]
+    return [0, needs[0], needs[1]]
+
+
+def answer_near(house, given):
+    nearest = nearest_plan(house.acts, house.rest, house.state, house.wanted)
+    if nearest is None:
+        return [NO_PLAN]
+    return [nearest[0], nearest[1]] + list(nearest[2])
+
+
+def answer_mend(house, given):
+    answer = answer_near(house, given)
+    if answer[0] != NO_PLAN:
+        house.rest = answer[2:]
+    return answer
+
+
+def answer_fresh(house, given):
+    cheapest = cheapest_plan(house.acts, house.state, house.wanted)
+    if cheapest is None:
+        return [NO_PLAN]
+    return [cheapest[0]] + list(cheapest[1])
+
+
+def answer_did(house, given):
+    cost = sum([house.acts[number].cost for number in house.done])
+    return [cost, house.state, len(house.rest)] + house.done
+
+
 # A call's number is its place here; beside it stands how many whole numbers
 # are handed over, or None where one row is, which tells its length itself.
 CALLS = (
@@ -117,6 +159,12 @@ CALLS = (
     (answer_goes, 1),
     (answer_happens, 2),
     (answer_wants, 1),
+    (answer_still, 0),
+    (answer_needs, 0),
+    (answer_near, 0),
+    (answer_mend, 0),
+    (answer_fresh, 0),
+    (answer_did, 0),
 )
 
 

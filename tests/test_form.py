@@ -22,6 +22,12 @@ ALLOWED_NAMES = set("""
     ArithmeticError OverflowError RuntimeError NotImplementedError StopIteration
 """.split())
 
+ALLOWED_METHODS = set("""
+    append clear copy count endswith extend find get index insert isalnum isalpha isdigit islower isspace isupper items
+    join keys ljust lower lstrip partition pop remove replace reverse rfind rjust rpartition rsplit rstrip setdefault
+    split splitlines startswith strip update upper values zfill bit_length
+""".split())
+
 UNUSED_WORDS = re.compile(
     r"\b(type|typing|typing_extensions|enum|Enum|IntEnum|StrEnum|Flag|IntFlag|Generic|Protocol|ABC|ABCMeta"
     r"|namedtuple|NamedTuple|TypedDict|TYPE_CHECKING|abstractmethod)\b|dataclass|overload|contextmanager"
@@ -98,6 +104,20 @@ class Form(unittest.TestCase):
                     self.assertNotIn(node.arg, own, (path, node.lineno))
                 if isinstance(node, ast.Name) and not node.id.startswith("__"):
                     self.assertRegex(node.id, r"\A[A-Za-z]", (path, node.lineno))
+
+    def test_methods_and_values_of_objects(self):
+        """L18, L25, L26"""
+        nodes = [node for path, tree in trees() for node in ast.walk(tree)]
+        classes = [node for node in nodes if isinstance(node, ast.ClassDef)]
+        methods = {part.name for node in classes for part in node.body if isinstance(part, ast.FunctionDef)}
+        values = {node.attr for node in nodes if isinstance(node, ast.Attribute) and isinstance(node.ctx, ast.Store)}
+        called = {
+            node.func.attr for node in nodes if isinstance(node, ast.Call) and isinstance(node.func, ast.Attribute)
+        }
+        self.assertEqual(methods & values, set())
+        self.assertLessEqual(called, ALLOWED_METHODS | methods)
+        python_s_own = {name for kind in (str, int, list, dict, set, bytes) for name in dir(kind)}
+        self.assertEqual((values | methods) & python_s_own, {"__init__"})
 
 
 if __name__ == "__main__":

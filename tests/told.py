@@ -29,6 +29,30 @@ def wants(wanted):
     return [5, wanted]
 
 
+def still():
+    return [6]
+
+
+def needs():
+    return [7]
+
+
+def near():
+    return [8]
+
+
+def mend():
+    return [9]
+
+
+def fresh():
+    return [10]
+
+
+def did():
+    return [11]
+
+
 def in_one_list(calls):
     return [number for call in calls for number in call]
 
